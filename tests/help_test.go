@@ -1,7 +1,9 @@
 package tests
 
 import (
+	"fmt"
 	"math"
+	"reflect"
 	"slices"
 	"testing"
 
@@ -64,3 +66,41 @@ var (
 	partMark   = impl.Part{Addr: 77, From: 7, Len: 7}
 	partRoom   = impl.Part{Addr: 88, From: 8, Len: 8}
 )
+
+// span is the memory of one list, with the room behind it.
+type span struct {
+	name     string
+	from, to uintptr
+}
+
+func spansOf[T any](name string, l []T) []span {
+	if cap(l) == 0 {
+		return nil
+	}
+	from := reflect.ValueOf(l).Pointer()
+	return []span{{name, from, from + uintptr(cap(l))*reflect.TypeFor[T]().Size()}}
+}
+
+func poolSpans(name string, p impl.Pool) []span {
+	all := slices.Concat(spansOf(name+".Extents", p.Extents), spansOf(name+".Vols", p.Vols), spansOf(name+".Refs", p.Refs), spansOf(name+".Late", p.Late))
+	for i, v := range p.Vols {
+		all = append(all, spansOf(fmt.Sprint(name, ".Vols ", i), v.Items)...)
+		for k, x := range v.Items {
+			all = append(all, spansOf(fmt.Sprint(name, ".Vols ", i, " Items ", k), x.Parts)...)
+		}
+	}
+	return all
+}
+
+// checkApart fails if any two of these lists share memory.
+func checkApart(t *testing.T, what string, lists ...[]span) {
+	t.Helper()
+	all := slices.Concat(lists...)
+	for i, a := range all {
+		for _, b := range all[:i] {
+			if a.from < b.to && b.from < a.to {
+				t.Errorf("%s: %s and %s share memory", what, a.name, b.name)
+			}
+		}
+	}
+}
